@@ -1,0 +1,231 @@
+"""The document's words once more, as slowly and plainly as they can be put, to hold the program against.
+
+Nothing here is shared with the program: what a frame bears is asked of what lies on it,
+and ways are found by trying every step again until nothing gets nearer.
+"""
+
+from copy import deepcopy
+
+FAR = 10 ** 6
+
+
+class Model:
+    def __init__(self):
+        self.state = None
+
+    def answer(self, call):
+        name = "begin soil put span take tie untie load unload ladder noladder come go down".split()[call[0]]
+        before = deepcopy(self.state)
+        if name != "begin" and before is None:
+            return -11
+        told = getattr(self, name)(*call[1:])
+        if told < 0:
+            self.state = before
+        return told
+
+    def frame(self, b, l):
+        return self.state["frames"].get((b, l))
+
+    def bears(self, b, l):
+        frame = self.frame(b, l)
+        total = self.state["weight"] + frame["things"]
+        total += sum(p["weight"] for p in self.state["persons"] if p["at"] == (b, l))
+        upper = self.frame(b, l + 1)
+        if upper and upper["kind"] == "stands":
+            total += self.bears(b, l + 1)
+        right = self.frame(b + 1, l + 1)
+        if right and right["kind"] == "beam":
+            total += (self.bears(b + 1, l + 1) + 1) // 2
+        left = self.frame(b - 1, l + 1)
+        if left and left["kind"] == "beam":
+            total += self.bears(b - 1, l + 1) // 2
+        return total
+
+    def too_much(self):
+        for (b, l) in self.state["frames"]:
+            load = self.bears(b, l)
+            if load > self.state["most"] or (l == 0 and load > self.state["ground"][b]):
+                return True
+        return False
+
+    def high(self, b, l):
+        frame = self.frame(b, l)
+        if frame["tied"]:
+            return 0
+        if l == 0:
+            return 1
+        if frame["kind"] == "stands":
+            return self.high(b, l - 1) + 1
+        return max(self.high(b - 1, l - 1), self.high(b + 1, l - 1)) + 1
+
+    def too_high(self):
+        return any(self.high(b, l) > self.state["free"] for (b, l) in self.state["frames"])
+
+    def steps(self):
+        pairs = []
+        for (b, l), frame in self.state["frames"].items():
+            if self.frame(b + 1, l):
+                pairs.append(((b, l), (b + 1, l)))
+            if frame["ladder"]:
+                pairs.append(((b, l), "ground" if l == 0 else (b, l - 1)))
+        return pairs + [(end, start) for start, end in pairs]
+
+    def few(self, start, goal):
+        near = {start: 0}
+        while True:
+            nearer = dict(near)
+            for one, other in self.steps():
+                if near.get(one, FAR) + 1 < nearer.get(other, FAR):
+                    nearer[other] = near[one] + 1
+            if nearer == near:
+                return near.get(goal)
+            near = nearer
+
+    def stuck(self):
+        return any(self.few(p["at"], "ground") is None for p in self.state["persons"])
+
+    def begin(self, bays, levels, weight, most, free):
+        if not (1 <= bays <= 8 and 1 <= levels <= 6 and 1 <= weight <= 100 and 1 <= most <= 500 and 1 <= free <= 4):
+            return -22
+        self.state = {"bays": bays, "levels": levels, "weight": weight, "most": most, "free": free,
+                      "ground": [10000] * bays, "frames": {}, "persons": []}
+        return 0
+
+    def soil(self, b, n):
+        if b >= self.state["bays"] or n > 10000:
+            return -22
+        bore = self.state["ground"][b]
+        self.state["ground"][b] = n
+        return -41 if self.too_much() else bore
+
+    def build(self, b, l, kind):
+        self.state["frames"][(b, l)] = {"kind": kind, "tied": False, "things": 0, "ladder": False}
+        if self.too_high():
+            return -40
+        return -41 if self.too_much() else len(self.state["frames"])
+
+    def put(self, b, l):
+        if b >= self.state["bays"] or l >= self.state["levels"]:
+            return -22
+        if self.frame(b, l):
+            return -17
+        if l > 0 and not self.frame(b, l - 1):
+            return -33
+        return self.build(b, l, "stands")
+
+    def span(self, b, l):
+        if b >= self.state["bays"] or l >= self.state["levels"] or l == 0:
+            return -22
+        if self.frame(b, l):
+            return -17
+        if self.frame(b, l - 1) or not (self.frame(b - 1, l - 1) and self.frame(b + 1, l - 1)):
+            return -33
+        return self.build(b, l, "beam")
+
+    def take(self, b, l):
+        frame = self.frame(b, l)
+        if not frame:
+            return -2
+        upper = self.frame(b, l + 1)
+        beams = [self.frame(b - 1, l + 1), self.frame(b + 1, l + 1)]
+        if (upper and upper["kind"] == "stands") or any(other and other["kind"] == "beam" for other in beams):
+            return -16
+        if frame["things"] or any(p["at"] == (b, l) for p in self.state["persons"]):
+            return -15
+        if frame["tied"]:
+            return -14
+        if frame["ladder"] or (upper and upper["ladder"]):
+            return -13
+        del self.state["frames"][(b, l)]
+        return -12 if self.stuck() else len(self.state["frames"])
+
+    def tied(self):
+        return sum(frame["tied"] for frame in self.state["frames"].values())
+
+    def tie(self, b, l):
+        frame = self.frame(b, l)
+        if not frame:
+            return -2
+        if frame["tied"]:
+            return -17
+        frame["tied"] = True
+        return self.tied()
+
+    def untie(self, b, l):
+        frame = self.frame(b, l)
+        if not frame:
+            return -2
+        if not frame["tied"]:
+            return -6
+        frame["tied"] = False
+        return -40 if self.too_high() else self.tied()
+
+    def load(self, b, l, n):
+        frame = self.frame(b, l)
+        if not frame:
+            return -2
+        if n < 1 or n > 1000:
+            return -22
+        frame["things"] += n
+        return -41 if self.too_much() else frame["things"]
+
+    def unload(self, b, l, n):
+        frame = self.frame(b, l)
+        if not frame:
+            return -2
+        if n < 1 or n > 1000:
+            return -22
+        if frame["things"] < n:
+            return -6
+        frame["things"] -= n
+        return frame["things"]
+
+    def ladder(self, b, l):
+        frame = self.frame(b, l)
+        if not frame:
+            return -2
+        if frame["ladder"]:
+            return -17
+        if l > 0 and not self.frame(b, l - 1):
+            return -33
+        frame["ladder"] = True
+        return 0
+
+    def noladder(self, b, l):
+        frame = self.frame(b, l)
+        if not frame:
+            return -2
+        if not frame["ladder"]:
+            return -6
+        frame["ladder"] = False
+        return -12 if self.stuck() else 0
+
+    def come(self, w):
+        if len(self.state["persons"]) >= 8:
+            return -28
+        if w < 1 or w > 200:
+            return -22
+        self.state["persons"].append({"weight": w, "at": "ground"})
+        return len(self.state["persons"]) - 1
+
+    def go(self, p, b, l):
+        if p >= len(self.state["persons"]) or not self.frame(b, l):
+            return -2
+        person = self.state["persons"][p]
+        if person["at"] == (b, l):
+            return -17
+        few = self.few(person["at"], (b, l))
+        if few is None:
+            return -33
+        person["at"] = (b, l)
+        return -41 if self.too_much() else few
+
+    def down(self, p):
+        if p >= len(self.state["persons"]):
+            return -2
+        person = self.state["persons"][p]
+        if person["at"] == "ground":
+            return -17
+        few = self.few(person["at"], "ground")
+        person["at"] = "ground"
+        return few
