@@ -43,8 +43,12 @@ def split_answers(told):
     return parts
 
 
+def whole_answers(calls):
+    return split_answers(answers(flat(calls)))
+
+
 def first_answers(calls):
-    return [part[0] for part in split_answers(answers(flat(calls)))]
+    return [part[0] for part in whole_answers(calls)]
 
 
 def last(text):
@@ -56,3 +60,14 @@ def behind(start, text):
     """What the calls of text answer when they are made behind those of start."""
     before = read(start)
     return first_answers(before + read(text))[len(before):]
+
+
+def whole(start, text):
+    """As behind, but all the numbers that each call answers."""
+    before = read(start)
+    return whole_answers(before + read(text))[len(before):]
+
+
+def column(bay, levels):
+    """The calls that put up a bay from the ground."""
+    return "".join(f"put {bay} {level};" for level in range(levels))

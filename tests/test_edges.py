@@ -2,7 +2,7 @@
 
 import unittest
 
-from tests.calling import behind
+from tests.calling import behind, column, whole
 
 BEAM = "begin 3 3 10 100 3; put 0 0; put 2 0; span 1 1;"
 
@@ -96,6 +96,61 @@ class UsualBreaks(unittest.TestCase):
         start = "begin 1 3 10 30 3; put 0 0; put 0 1; put 0 2;"
         self.assertEqual(behind(start, "load 0 2 1; load 0 0 1; take 0 2; load 0 1 10; load 0 1 1; put 0 2; soil 0 30; soil 0 29"),
                          [-41, -41, 2, 10, -41, -41, 10000, -41])
+
+
+class UsualBreaksAsTheyAreTold(unittest.TestCase):
+    def test_a_frame_put_under_one_that_is_on_a_beam(self):
+        self.assertEqual(whole(BEAM, "put 1 0; look 1 1; bears 1 0; feet; high 1 1; high 1 0; room 1 0; strip"),
+                         [[4], [2, 0, 0, 0, 0], [10, 90], [40, 15, 10, 15], [2], [1], [90], [2, 1, 0, 1, 1]])
+        # Taken off its beam and put again, it stands on the one below.
+        self.assertEqual(whole(BEAM, "put 1 0; take 1 1; strip; put 1 1; look 1 1; bears 1 0; feet; strip"),
+                         [[4], [3], [3, 0, 0, 1, 0, 2, 0], [4], [1, 0, 0, 0, 0], [20, 80], [40, 10, 20, 10],
+                          [3, 0, 0, 2, 0, 1, 1]])
+
+    def test_a_beam_whose_load_is_odd(self):
+        self.assertEqual(whole(BEAM + "load 1 1 1; soil 0 16; soil 2 15;", "feet; room 1 1; room 0 0; room 2 0; soil 2 16; room 1 1"),
+                         [[31, 16, 0, 15], [0], [0], [0], [15], [1]])
+
+    def test_a_tie_loosened_two_levels_below(self):
+        start = "begin 1 3 10 100 2; put 0 0; tie 0 0; put 0 1; put 0 2;"
+        self.assertEqual(whole(start, "high 0 2; loose; untie 0 0; high 0 2; tie 0 2; loose; untie 0 0; high 0 1; high 0 2; loose"),
+                         [[2], [0], [-40], [2], [2], [2, 0, 0, 0, 2], [1], [2], [0], [0]])
+
+    def test_a_person_just_too_heavy_where_they_would_go(self):
+        start = "begin 3 1 10 100 1; put 0 0; put 1 0; put 2 0; ladder 0 0; load 1 0 70; come 21; come 20;"
+        self.assertEqual(whole(start, "room 1 0; way 0 1 0; go 0 1 0; way 0 2 0; where 0; go 1 1 0; room 1 0; bears 1 0; most"),
+                         [[20], [2], [-41], [3], [0, 21, 0, 0], [2], [0], [100, 0], [100, 1, 0]])
+
+    def test_a_deck_between_two_ladders(self):
+        start = "begin 2 3 10 100 3;" + column(0, 3) + "put 1 0; ladder 0 0; ladder 0 1; ladder 0 2; come 5; come 6; go 0 0 2; go 1 0 1;"
+        self.assertEqual(whole(start, "cut 0 0; cut 0 1; cut 0 2; strip; reached; way 0 1 0; way 1 0 2"),
+                         [[2, 0, 1], [2, 0, 1], [1, 0], [1, 1, 0], [4, 0, 0, 1, 0, 0, 1, 0, 2], [3], [1]])
+
+    def test_a_ladder_to_a_frame_on_a_beam(self):
+        start = BEAM + "put 1 0; ladder 1 1; ladder 1 0; come 5;"
+        self.assertEqual(whole(start, "look 1 1; way 0 1 1; reached; go 0 1 1; cut 1 1; cut 1 0; strip; noladder 1 0"),
+                         [[2, 0, 0, 0, 1], [2], [4, 0, 0, 1, 0, 2, 0, 1, 1], [2], [1, 0], [1, 0], [0], [-12]])
+
+    def test_soil_that_is_made_weaker(self):
+        start = BEAM + "load 1 1 5;"
+        self.assertEqual(whole(start, "room 1 1; soil 0 30; room 1 1; soil 2 20; room 1 1; soil 2 16; room 1 1; room 2 0; feet"),
+                         [[85], [10000], [25], [10000], [6], [-41], [6], [3], [35, 18, 0, 17]])
+
+    def test_a_frame_at_the_end_of_the_wall(self):
+        start = "begin 3 2 10 100 2; put 0 0; put 2 0; put 0 1; put 2 1; ladder 0 0; ladder 2 1; come 5;"
+        self.assertEqual(whole(start, "reached; way 0 2 1; way 0 0 1; bears 2 0; bears 0 0; strip; ladder 2 0; way 0 2 1; reached"),
+                         [[1, 0, 0], [-33], [-33], [20, 80], [20, 80], [1, 0, 1], [0], [2], [3, 0, 0, 2, 0, 2, 1]])
+
+    def test_three_frames_that_one_carries(self):
+        start = "begin 5 2 11 100 2; put 0 0; put 2 0; put 4 0; span 1 1; span 3 1; put 2 1;"
+        self.assertEqual(whole(start, "bears 2 0; most; strip; take 2 1; bears 2 0; take 1 1; bears 2 0; strip; take 3 1; bears 2 0"),
+                         [[33, 67], [33, 2, 0], [3, 1, 1, 2, 1, 3, 1], [5], [22, 78], [4], [17, 83], [2, 0, 0, 3, 1], [3],
+                          [11, 89]])
+
+    def test_most_just_reached(self):
+        start = "begin 1 3 10 30 3;" + column(0, 3)
+        self.assertEqual(whole(start, "bears 0 0; room 0 0; room 0 1; room 0 2; most; take 0 2; room 0 1; load 0 1 10; room 0 1"),
+                         [[30, 0], [0], [0], [0], [30, 0, 0], [2], [10], [10], [0]])
 
 
 if __name__ == "__main__":

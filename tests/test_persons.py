@@ -1,6 +1,6 @@
 import unittest
 
-from tests.calling import LARGEST, behind
+from tests.calling import LARGEST, behind, whole
 
 BEGUN = "begin 4 4 10 100 4;"
 HOUSE = BEGUN + "put 0 0; put 0 1; put 1 0; put 1 1; ladder 0 0; ladder 0 1; come 30;"
@@ -92,6 +92,48 @@ class Down(unittest.TestCase):
 
     def test_they_weigh_no_more(self):
         self.assertEqual(behind(HOUSE + "go 0 0 1;", "load 0 1 61; down 0; load 0 1 80"), [-41, 2, 80])
+
+
+class Way(unittest.TestCase):
+    def test_by_how_few_steps(self):
+        self.assertEqual(whole(HOUSE, "way 0 0 0; way 0 1 0; way 0 0 1; way 0 1 1"), [[1], [2], [2], [3]])
+        self.assertEqual(whole(HOUSE + "go 0 1 1;", "way 0 0 0; way 0 1 0; way 0 0 1"), [[2], [3], [1]])
+
+    def test_0_where_they_are(self):
+        self.assertEqual(whole(HOUSE, "go 0 0 0; way 0 0 0; go 0 1 1; way 0 1 1"), [[1], [0], [2], [0]])
+
+    def test_no_such_person_or_no_frame(self):
+        self.assertEqual(behind(HOUSE, f"way 1 0 0; way {LARGEST} 0 0; way 0 2 0; way 0 0 2; way 0 4 0; way 0 0 4;"
+                                f"way 0 {LARGEST} 0; way 0 0 {LARGEST}; way {LARGEST} {LARGEST} {LARGEST}"), [-2] * 9)
+        self.assertEqual(behind(BEGUN + "put 0 0; ladder 0 0;", "way 0 0 0; come 5; way 0 0 0; way 1 0 0"), [-2, 0, 1, -2])
+
+    def test_the_last_of_eight(self):
+        self.assertEqual(behind(BEGUN + "put 0 0; ladder 0 0;" + "come 5;" * 8, "way 7 0 0; way 8 0 0"), [1, -2])
+
+    def test_no_way_by_steps(self):
+        self.assertEqual(behind(HOUSE + "put 3 0;", "way 0 3 0; put 2 0; way 0 3 0; noladder 0 0; way 0 3 0; way 0 0 0"),
+                         [-33, 6, 4, 0, -33, -33])
+
+    def test_none_such_is_told_before_no_way(self):
+        self.assertEqual(behind(HOUSE + "put 3 0;", "way 1 3 0; way 0 3 1; way 0 3 0"), [-2, -2, -33])
+
+    def test_over_the_ground_and_by_the_shorter_way(self):
+        start = "begin 8 1 10 100 1;" + "".join(f"put {bay} 0;" for bay in range(8)) + "ladder 0 0; come 5; go 0 7 0;"
+        self.assertEqual(behind(start, "way 0 0 0; ladder 7 0; way 0 0 0; way 0 3 0; way 0 4 0; take 3 0; way 0 2 0"),
+                         [7, 0, 2, 4, 3, 7, 4])
+
+    def test_it_is_what_go_answers(self):
+        for goal in ("0 0", "1 0", "0 1", "1 1"):
+            for start in ("", "go 0 0 0;", "go 0 1 0;", "go 0 0 1;", "go 0 1 1;"):
+                steps, went = behind(HOUSE + start, f"way 0 {goal}; go 0 {goal}")
+                self.assertEqual(went, -17 if steps == 0 else steps)
+
+    def test_also_where_it_would_be_too_much(self):
+        self.assertEqual(behind(HOUSE + "load 1 1 61;", "way 0 1 1; go 0 1 1; way 0 1 1"), [3, -41, 3])
+
+    def test_they_stay_where_they_are(self):
+        self.assertEqual(whole(HOUSE + "go 0 0 0;", "way 0 1 1; way 0 1 1; where 0; bears 1 1"),
+                         [[2], [2], [1, 30, 0, 0], [10, 90]])
 
 
 if __name__ == "__main__":

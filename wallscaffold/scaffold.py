@@ -1,14 +1,15 @@
 """The interface: a list of calls on one scaffold in, the list of their answers out."""
 
 from wallscaffold.calls import OUT_OF_RANGE, change
+from wallscaffold.tells import tell
 from wallscaffold.wall import Wall, copied
 
 NOT_BEGUN = -11
 BEGIN = 0
+LAST_CHANGE = 13
 BEGIN_LIMITS = (8, 6, 100, 500, 4)
 
-# How many numbers follow a call's own, by that one: all calls, so that a list is read right
-# also where it holds calls that are only refused.
+# How many numbers follow a call's own, by that one.
 ARGUMENT_COUNTS = (5, 2, 2, 2, 2, 2, 2, 3, 3, 2, 2, 1, 3, 1, 2, 0, 2, 2, 3, 0, 0, 0, 2, 0, 2, 1, 0, 0)
 
 
@@ -18,10 +19,15 @@ class Scaffold:
 
     def answer(self, number, numbers):
         if number == BEGIN:
-            return self.begin(numbers)
+            return [self.begin(numbers)]
         if self.wall is None:
-            return NOT_BEGUN
-        # What is refused changes nothing: the call is tried on a copy.
+            return [NOT_BEGUN]
+        if number <= LAST_CHANGE:
+            return [self.try_change(number, numbers)]
+        return tell(self.wall, number, numbers)
+
+    # What is refused changes nothing: the call is tried on a copy.
+    def try_change(self, number, numbers):
         trial = copied(self.wall)
         result = change(trial, number, numbers)
         if result >= 0:
@@ -42,7 +48,8 @@ def answers(calls):
     while at < len(calls):
         number = calls[at]
         end = at + 1 + ARGUMENT_COUNTS[number]
-        told.append(1)
-        told.append(scaffold.answer(number, calls[at + 1:end]))
+        result = scaffold.answer(number, calls[at + 1:end])
+        told.append(len(result))
+        told.extend(result)
         at = end
     return told

@@ -91,11 +91,16 @@ def frame_loads(wall):
     return loads
 
 
+# What the ground bears in each bay, out of what each frame bears.
+def ground_loads(wall, loads):
+    return [loads.get((bay, 0), 0) for bay in range(wall.bays)]
+
+
 def too_much(wall):
     loads = frame_loads(wall)
     if any([load > wall.most for load in loads.values()]):
         return True
-    return any([loads.get((bay, 0), 0) > wall.ground[bay] for bay in range(wall.bays)])
+    return any([load > limit for load, limit in zip(ground_loads(wall, loads), wall.ground)])
 
 
 def frame_heights(wall):
@@ -142,6 +147,10 @@ def steps_from(wall, start):
 
 
 # Steps lead both ways, so whoever is reached from the ground can come down.
-def somebody_stuck(wall):
+def stuck_persons(wall):
     steps = steps_from(wall, GROUND)
-    return any([spot not in steps for spot in wall.spots])
+    return [person for person, spot in enumerate(wall.spots) if spot not in steps]
+
+
+def somebody_stuck(wall):
+    return len(stuck_persons(wall)) > 0
